@@ -1,4 +1,29 @@
-"""What right entries of a book say, one behind another."""
+"""What entries of a book are, and what right ones say, one behind another."""
+
+from allbrought.floors import homes, stations
+from allbrought.kinds import is_number_below, is_tuple_of
+
+MOST_PAIRS = 6
+
+
+def is_entry(floor, thing):
+    """Whether a thing is an entry of a book of the floor."""
+    if not is_tuple_of(thing, 2) or not isinstance(thing[0], str):
+        return False
+    if thing[0] == "orders":
+        return _are_pairs(floor, thing[1])
+    return thing[0] in ("out", "in") and is_number_below(thing[1], len(homes(floor)))
+
+
+def _are_pairs(floor, thing):
+    if not isinstance(thing, tuple) or not 1 <= len(thing) <= MOST_PAIRS:
+        return False
+    return all([is_order(floor, pair) for pair in thing])
+
+
+def is_order(floor, thing):
+    """Whether a thing is a pair of numbers of stations."""
+    return is_tuple_of(thing, 2) and all([is_number_below(item, len(stations(floor))) for item in thing])
 
 
 def orders_of(entries):

@@ -31,12 +31,3 @@ def is_lot(thing):
             return False
         ahead = item
     return True
-
-
-def is_step_name(thing, counts):
-    """Whether a thing is a pair (row, place) of a place in rows of so many places."""
-    return (
-        is_tuple_of(thing, 2)
-        and is_number_below(thing[0], len(counts))
-        and is_number_below(thing[1], counts[thing[0]])
-    )

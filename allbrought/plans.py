@@ -1,6 +1,6 @@
 """The judge of plans, best paths, and the plain plan of entries."""
 
-from allbrought.entries import orders_of, robots_inside
+from allbrought.entries import is_order, orders_of, robots_inside
 from allbrought.errors import NoRobot, NoStation
 from allbrought.floors import homes, stations
 from allbrought.kinds import is_number, is_number_below, is_tuple_of
@@ -16,7 +16,7 @@ def is_plan(floor, entries, thing):
         and _are_jobs(floor, entries, thing.jobs)
         and _are_made(floor, entries, thing)
         and first_clash(floor, thing.tracks) is None
-        and _keeps_turns(floor, entries, thing)
+        and _keeps_turns(entries, thing)
     )
 
 
@@ -48,10 +48,10 @@ def _are_made(floor, entries, plan):
     return ends == [track[-1][0] for track in plan.tracks]
 
 
-def _keeps_turns(floor, entries, plan):
+def _keeps_turns(entries, plan):
     """Whether in each cell robots of later entries are behind the others of elder ones."""
     lasts = {}
-    visits = _visits_by_entry(floor, entries, plan)
+    visits = _visits_by_entry(entries, plan)
     for entry in sorted(visits):
         for robot, cell, first, _ in visits[entry]:
             elder = [lasts.get((other, cell), -1) for other in range(len(plan.tracks)) if other != robot]
@@ -62,16 +62,16 @@ def _keeps_turns(floor, entries, plan):
     return True
 
 
-def _visits_by_entry(floor, entries, plan):
+def _visits_by_entry(entries, plan):
     """The dict from numbers of entries to lists of the visits (robot, cell, first tick, last tick) by their ways."""
     visits = {}
     for robot, track in enumerate(plan.tracks):
-        away = [stay for stay in stays(track) if stay[0] != homes(floor)[robot]]
-        for job, (_, _, entry) in zip(plan.jobs, orders_of(entries)):
+        left = stays(track)
+        for job, order in zip(plan.jobs, orders_of(entries)):
             if job[0] == robot:
-                way_out = [stay for stay in away if stay[1] < job[3]]
-                away = away[len(way_out):]
-                visits.setdefault(entry, []).extend([(robot,) + stay for stay in way_out])
+                by_job = [stay for stay in left if stay[1] < job[3]]
+                left = left[len(by_job):]
+                visits.setdefault(order[2], []).extend([(robot,) + stay for stay in by_job])
     return visits
 
 
@@ -79,9 +79,7 @@ def best_path(floor, entries, robot, order):
     """The pair (home tick, path) of a robot for an order that were the only one of one entry more."""
     if not is_number_below(robot, len(homes(floor))):
         raise NoRobot()
-    if not is_tuple_of(order, 2):
-        raise NoStation()
-    if not all([is_number_below(station, len(stations(floor))) for station in order]):
+    if not is_order(floor, order):
         raise NoStation()
     return path_behind(laid_behind(nothing_laid(floor), entries), robot, order)
 

@@ -4,7 +4,7 @@ from allbrought.errors import NoCell, NoRobot, NoTick, NoTracks
 from allbrought.floors import homes, is_open, neighbours
 from allbrought.kinds import is_number, is_number_below, is_tuple_of
 
-LAST_TICK = 10 ** 9
+LAST_TICK = 1000000000
 
 
 class Plan:
@@ -107,8 +107,8 @@ def first_clash(floor, tracks):
 
 
 def _visits_by_cell(tracks):
-    """The dict from cells to lists of (first tick, last tick, robot); what is for ever ends behind all clashes."""
-    end = max([track[-1][0] for track in tracks]) + 2
+    """The dict from cells to lists of (first tick, last tick, robot); what is for ever ends behind all others."""
+    end = max([track[-1][0] for track in tracks])
     visits = {}
     for robot, track in enumerate(tracks):
         for cell, first, last in stays(track):
@@ -117,26 +117,23 @@ def _visits_by_cell(tracks):
 
 
 def _clashes_in_cell(visits):
-    """A list in which the least clash of these ascending visits of one cell is."""
+    """The list of the least clashes of each two of these ascending visits of one cell that clash."""
     clashes = []
     for number, visit in enumerate(visits):
         at = number + 1
         while at < len(visits) and visits[at][0] <= visit[1] + 1:
             if visits[at][2] != visit[2]:
-                clashes.extend(_clashes_of_two(visit, visits[at]))
-                clashes.extend(_clashes_of_two(visits[at], visit))
+                clashes.append(_clash_of_two(visit, visits[at]))
             at += 1
     return clashes
 
 
-def _clashes_of_two(visit, other):
-    """The least clashes, at one tick and at two, in which the first visit is that of the lesser tick."""
-    clashes = []
-    for gap in (0, 1):
-        tick = max(visit[0], other[0] - gap)
-        if tick <= min(visit[1], other[1] - gap):
-            clashes.append((tick, tick + gap, visit[2], other[2]))
-    return clashes
+def _clash_of_two(visit, other):
+    """The least clash of a visit and of another one that begins at this one's ticks, or right behind them."""
+    tick = other[0]
+    if visit[0] < tick:
+        return (tick - 1, tick, visit[2], other[2])
+    return (tick, tick, min(visit[2], other[2]), max(visit[2], other[2]))
 
 
 def stretches(plan, cell, robot):

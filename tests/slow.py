@@ -328,3 +328,72 @@ def random_entries(chance, floor, many):
                 (chance.randrange(stations), chance.randrange(stations)) for _ in range(orders)
             )))
     return entries
+
+
+def steps_of(plan, robot):
+    """The steps of a robot, by a look at each tick."""
+    found = []
+    track = plan.tracks[robot]
+    for tick in range(1, greatest_tick(plan.tracks) + 1):
+        ahead, cell = cell_at(track, tick - 1), cell_at(track, tick)
+        if ahead != cell:
+            found.append(("go", tick, ahead, cell))
+        for order, (who, take, put, _) in enumerate(plan.jobs):
+            if who == robot and take + 1 == tick:
+                found.append(("take", tick, order))
+            if who == robot and put + 1 == tick:
+                found.append(("put", tick, order))
+    return tuple(found)
+
+
+def hangings(plan):
+    """The dict from all steps to the tuples of those that they hang on, each looked for among all."""
+    rows = [steps_of(plan, robot) for robot in range(len(plan.tracks))]
+    found = {}
+    for robot, row in enumerate(rows):
+        for number, step in enumerate(row):
+            names = [(robot, number - 1)] if number else []
+            if step[0] == "go":
+                outs = [
+                    (other[1], its_robot, its_number)
+                    for its_robot, its_row in enumerate(rows)
+                    for its_number, other in enumerate(its_row)
+                    if its_robot != robot and other[0] == "go" and other[2] == step[3] and other[1] < step[1]
+                ]
+                names.extend((its_robot, its_number) for _, its_robot, its_number in sorted(outs)[-1:])
+            found[(robot, number)] = tuple(sorted(names))
+    return found
+
+
+def is_closed(hung, done):
+    return all(
+        other < done[its_robot]
+        for robot, many in enumerate(done)
+        for number in range(many)
+        for its_robot, other in hung[(robot, number)]
+    )
+
+
+def walk(chance, plan, hung):
+    """Tuples of what is done, one behind the other, by robots that may, taken at random, from nothing to all."""
+    counts = [len(steps_of(plan, robot)) for robot in range(len(plan.tracks))]
+    done = [0] * len(counts)
+    while True:
+        yield tuple(done)
+        ready = [
+            robot for robot, many in enumerate(done)
+            if many < counts[robot] and is_closed(hung, done[:robot] + [many + 1] + done[robot + 1:])
+        ]
+        if not ready:
+            return
+        done[chance.choice(ready)] += 1
+
+
+def ends_of(hung, times):
+    """When steps end: each at once when all that it hangs on has ended; times by names."""
+    found = {}
+    while len(found) < len(hung):
+        for name, names in hung.items():
+            if name not in found and all(other in found for other in names):
+                found[name] = max([found[other] for other in names], default=0) + times[name]
+    return found

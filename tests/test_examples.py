@@ -2,8 +2,10 @@
 
 import unittest
 
+from allbrought.doing import cells_of, held, may_do
 from allbrought.floors import Floor, barred, barring, cells, far, neighbours
 from allbrought.plans import plan_of
+from allbrought.steps import hangs_on, steps
 
 floor = Floor(("H.S", "H.S"))
 one = [("orders", ((0, 1),))]
@@ -25,9 +27,22 @@ class Examples(unittest.TestCase):
         self.assertEqual(plan_of(floor, one).tracks, expected)
         self.assertEqual(plan_of(floor, one).jobs, ((0, 2, 4, 8),))
 
-    def test_e05_tracks_and_jobs(self):
+    def test_e04(self):
+        self.assertEqual(steps(plan_of(floor, one), 0), (
+            ("go", 1, 0, 1), ("go", 2, 1, 2), ("take", 3, 0), ("go", 4, 2, 5), ("put", 5, 0), ("go", 6, 5, 2),
+            ("go", 7, 2, 1), ("go", 8, 1, 0),
+        ))
+
+    def test_e05(self):
         self.assertEqual(plan_of(floor, two).tracks[1], ((0, 3), (6, 4), (7, 5), (10, 4), (11, 3)))
         self.assertEqual(plan_of(floor, two).jobs[1], (1, 7, 8, 11))
+        self.assertEqual(hangs_on(plan_of(floor, two), (1, 1)), ((0, 5), (1, 0)))
+
+    def test_e06(self):
+        plan = plan_of(floor, two)
+        self.assertEqual(may_do(plan, (0, 0)), (0, 1))
+        self.assertEqual(held(plan, (0, 0), (0,)), ((0, 1), (3,)))
+        self.assertEqual(cells_of(plan, (2, 1)), (2, 4))
 
 
 if __name__ == "__main__":

@@ -158,6 +158,20 @@ class Judge(unittest.TestCase):
         tracks = (tracks[0], ((0, 2), (4, 1), (7, 2)))
         self.check(floor, two, Plan(tracks, ((0, 1, 2, 4), (1, 4, 5, 7))), False)
 
+    def test_later_entries_go_behind_each_other_robot(self):
+        floor = Floor(("#H#", "HSH", "#H#"))
+        entries = [("orders", ((0, 0), (0, 0))), ("orders", ((0, 0),))]
+        tracks = (((0, 0),), ((0, 1), (1, 2), (4, 1)), ((0, 3), (5, 2), (8, 3)), ((0, 4), (9, 2), (12, 4)))
+        ticks = {1: (1, 2, 4), 2: (5, 6, 8), 3: (9, 10, 12)}
+        for robots, expected in [
+            ((1, 2, 3), True), ((2, 1, 3), True), ((1, 3, 2), False), ((3, 1, 2), False), ((2, 3, 1), False),
+            ((3, 2, 1), False),
+        ]:
+            jobs = tuple((robot,) + ticks[robot] for robot in robots)
+            thing = Plan(tracks, jobs)
+            self.assertIs(slow.judged(floor, entries, thing), expected)
+            self.check(floor, entries, thing, expected)
+
     def test_kinds(self):
         plan = plan_of(TWO_ROWS, TWO)
         things = [

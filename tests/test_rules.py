@@ -4,15 +4,16 @@ import copy
 import random
 import unittest
 
-from allbrought import floors, plans, tracks
+from allbrought import books, doing, floors, plans, steps, times, tracks
 from allbrought.errors import FloorError
 from allbrought.floors import Floor
 from tests import slow
 from tests.things import TWO, TWO_ROWS, odd_things
 
 BARRED = Floor(("HHS", "..#"))
+TIMES = ((1, 2, 3, 4, 5, 6, 7, 8), (8, 7, 6, 5, 4, 3))
 # their last argument is always of the right kind
-TRUSTING = [floors.cells, floors.homes, floors.stations, floors.barred, tracks.last_tick, plans.plan_of]
+TRUSTING = [floors.cells, floors.homes, floors.stations, floors.barred, tracks.last_tick, plans.plan_of, steps.hangings]
 
 
 def calls():
@@ -27,7 +28,21 @@ def calls():
         (tracks.first_clash, [TWO_ROWS, plan.tracks]), (tracks.stretches, [plan, 2, 1]),
         (plans.is_plan, [TWO_ROWS, list(TWO), plan]), (plans.best_path, [TWO_ROWS, list(TWO), 1, (0, 1)]),
         (plans.plan_of, [TWO_ROWS, list(TWO)]),
+        (told, [TWO_ROWS, list(TWO)]),
+        (steps.steps, [plan, 0]), (steps.hangs_on, [plan, (1, 1)]), (steps.hangings, [plan]),
+        (steps.is_before, [plan, (0, 0), (1, 1)]), (steps.chain, [plan, (1, 1)]),
+        (doing.is_closed, [plan, (6, 2)]), (doing.is_over, [plan, (6, 2)]), (doing.may_do, [plan, (6, 2)]),
+        (doing.cells_of, [plan, (6, 2)]), (doing.loads_of, [plan, (4, 0)]), (doing.held, [plan, (6, 2), (0, 1)]),
+        (doing.led, [plan, (0, 0), [0, 1, 0]]), (doing.finish, [plan, (0, 0)]),
+        (times.ends, [plan, TIMES]), (times.whole_time, [plan, TIMES]), (times.critical, [plan, TIMES]),
+        (times.slack, [plan, TIMES, (0, 7)]),
     ]
+
+
+def told(floor, entries):
+    """All that the book of some entries tells, as a list."""
+    book = books.book_of(floor, entries)
+    return [book.entries(), book.orders(), book.robots_in(), book.plan(), book.copy().entries()]
 
 
 class Rules(unittest.TestCase):

@@ -84,6 +84,16 @@ class Clashes(unittest.TestCase):
         self.assertEqual(clash(((1, 1), (2, 2)), ((1, 3), (2, 2))), (2, 2, 0, 1))
         self.assertEqual(clash(((1, 1), (2, 2), (3, 3)), ((2, 3), (3, 2))), (2, 3, 0, 1))
 
+    def test_the_least_robots_of_several(self):
+        floor = Floor(("H.H", "#H#"))
+        first = ((0, 0), (1, 1))
+        self.assertEqual(first_clash(floor, (first, ((0, 2), (5, 1)), ((0, 3), (5, 1), (6, 3)))), (4, 5, 0, 1))
+        self.assertEqual(first_clash(floor, (first, ((0, 2), (5, 1), (6, 2)), ((0, 3), (5, 1)))), (4, 5, 0, 1))
+        self.assertEqual(first_clash(floor, (first, ((0, 2), (6, 1), (7, 2)), ((0, 3), (5, 1)))), (4, 5, 0, 2))
+        self.assertEqual(first_clash(floor, (first, ((0, 2), (1, 1)), ((0, 3), (1, 1)))), (1, 1, 0, 1))
+        self.assertEqual(first_clash(floor, (((0, 0),), ((0, 2), (1, 1), (2, 2)), ((0, 3), (1, 1)))), (1, 1, 1, 2))
+        self.assertEqual(first_clash(floor, (((0, 0), (4, 1)), ((0, 2), (1, 1)), ((0, 3),))), (3, 4, 1, 0))
+
     def test_far_ticks(self):
         one = ((0, 0), (FAR_TICK, 1), (FAR_TICK + 1, 2))
         self.assertEqual(first_clash(LINE, (one, ((0, 4), (3, 3), (4, 2)))), (FAR_TICK, FAR_TICK + 1, 1, 0))
@@ -97,7 +107,7 @@ class Clashes(unittest.TestCase):
         chance = random.Random(22)
         apart = gaps = 0
         for _ in range(400):
-            floor = slow.random_floor(chance, 3, 4)
+            floor = slow.random_floor(chance, 3, 4) if chance.random() < 0.5 else Floor(("H.H", "H.H"))
             tracks = wandering(chance, floor)
             expected = slow.clash(tracks)
             self.assertEqual(first_clash(floor, tracks), expected)

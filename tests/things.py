@@ -52,3 +52,22 @@ BAD_FLOORS = [
     (Floor(("H.S", "###", "H.S")), (0, 1)),
     (Floor(("S.H", "#H#", "H#.")), (2, 0)),
 ]
+
+
+def sample_plans():
+    """Pairs of a floor and right entries on it: none, few and many, of one robot and of several."""
+    corner = GOOD_FLOORS[5]
+    return [
+        (Floor(("H.",)), []),
+        (TWO_ROWS, []),
+        (TWO_ROWS, ONE),
+        (TWO_ROWS, TWO),
+        (TWO_ROWS, [("orders", ((0, 1), (1, 1), (1, 0), (0, 0)))] + TWO),
+        (Floor(("HS",)), [("orders", ((0, 0), (0, 0)))]),
+        (Floor(("HSSSH",)), [("orders", ((0, 2), (2, 0)))]),
+        (Floor(("HSSSH",)), [("out", 0), ("orders", ((0, 2),)), ("in", 0), ("orders", ((2, 0), (1, 1)))]),
+        (corner, [("orders", ((0, 1), (1, 2), (2, 0)))]),
+        (corner, [("out", 1), ("orders", ((0, 1), (1, 2))), ("orders", ((2, 2),)), ("in", 1), ("orders", ((1, 0),) * 4)]),
+        (GOOD_FLOORS[6], [("orders", ((0, 1), (1, 0), (0, 0))), ("orders", ((1, 1), (0, 1), (1, 0)))]),
+        (GOOD_FLOORS[7], [("orders", ((0, 1), (1, 0), (0, 0), (1, 1), (0, 1), (1, 0)))] * 2),
+    ]
