@@ -22,10 +22,11 @@ def where(plan, tick):
     """The tuple of the cells in which robots are at a tick."""
     if not is_number_below(tick, LAST_TICK + 1):
         raise NoTick()
-    return tuple([_cell_at(track, tick) for track in plan.tracks])
+    return tuple([cell_at(track, tick) for track in plan.tracks])
 
 
-def _cell_at(track, tick):
+def cell_at(track, tick):
+    """The cell in which a robot is at a tick."""
     cell = track[0][1]
     for first, place in track:
         if first > tick:

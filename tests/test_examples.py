@@ -4,7 +4,9 @@ import unittest
 
 from allbrought.doing import cells_of, held, may_do
 from allbrought.floors import Floor, barred, barring, cells, far, neighbours
+from allbrought.marks import mark
 from allbrought.plans import plan_of
+from allbrought.rows import whole
 from allbrought.steps import hangs_on, steps
 
 floor = Floor(("H.S", "H.S"))
@@ -43,6 +45,10 @@ class Examples(unittest.TestCase):
         self.assertEqual(may_do(plan, (0, 0)), (0, 1))
         self.assertEqual(held(plan, (0, 0), (0,)), ((0, 1), (3,)))
         self.assertEqual(cells_of(plan, (2, 1)), (2, 4))
+
+    def test_e07(self):
+        self.assertEqual(whole(300), (172, 2))
+        self.assertEqual(mark((7,)), 1000011)
 
 
 if __name__ == "__main__":

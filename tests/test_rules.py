@@ -4,7 +4,7 @@ import copy
 import random
 import unittest
 
-from allbrought import books, doing, floors, plans, steps, times, tracks
+from allbrought import books, changes, doing, floors, marks, measures, plans, rows, steps, times, tracks
 from allbrought.errors import FloorError
 from allbrought.floors import Floor
 from tests import slow
@@ -13,7 +13,10 @@ from tests.things import TWO, TWO_ROWS, odd_things
 BARRED = Floor(("HHS", "..#"))
 TIMES = ((1, 2, 3, 4, 5, 6, 7, 8), (8, 7, 6, 5, 4, 3))
 # their last argument is always of the right kind
-TRUSTING = [floors.cells, floors.homes, floors.stations, floors.barred, tracks.last_tick, plans.plan_of, steps.hangings]
+TRUSTING = [
+    floors.cells, floors.homes, floors.stations, floors.barred, tracks.last_tick, plans.plan_of, steps.hangings,
+    measures.passes, measures.busiest, measures.bounds,
+]
 
 
 def calls():
@@ -36,6 +39,12 @@ def calls():
         (doing.led, [plan, (0, 0), [0, 1, 0]]), (doing.finish, [plan, (0, 0)]),
         (times.ends, [plan, TIMES]), (times.whole_time, [plan, TIMES]), (times.critical, [plan, TIMES]),
         (times.slack, [plan, TIMES, (0, 7)]),
+        (measures.passes, [plan, 1]), (measures.busiest, [plan]), (measures.bounds, [TWO_ROWS, plan]),
+        (measures.rests, [tracks.Plan((((0, 0), (1, 1), (4, 0)), ((0, 3),)), ()), 0]),
+        (rows.whole, [300]), (rows.signed, [-300]), (rows.read_whole, [(0, 172, 2, 0), 1]),
+        (rows.read_signed, [(0, 172, 2, 0), 1]), (marks.mark, [(7, 8)]), (marks.mark_behind, [9, (7, 8)]),
+        (changes.changed, [(1, 2, 3), (3, 5, 9)]), (changes.change, [(1, 2, 3), (1, 9)]),
+        (changes.is_change, [(1, 2, 3), (1, 9), (3, 5, 9)]),
     ]
 
 

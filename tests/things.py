@@ -2,6 +2,7 @@
 
 from allbrought.floors import Floor
 from allbrought.tracks import Plan
+from tests import slow_rows
 
 TWO_ROWS = Floor(("H.S", "H.S"))
 ONE = [("orders", ((0, 1),))]
@@ -70,4 +71,13 @@ def sample_plans():
         (corner, [("out", 1), ("orders", ((0, 1), (1, 2))), ("orders", ((2, 2),)), ("in", 1), ("orders", ((1, 0),) * 4)]),
         (GOOD_FLOORS[6], [("orders", ((0, 1), (1, 0), (0, 0))), ("orders", ((1, 1), (0, 1), (1, 0)))]),
         (GOOD_FLOORS[7], [("orders", ((0, 1), (1, 0), (0, 0), (1, 1), (0, 1), (1, 0)))] * 2),
+    ]
+
+
+def no_rows():
+    """Things of every kind that are no rows, each as near to one as can be."""
+    return [thing for thing in odd_things() if not slow_rows.is_row(thing)] + [
+        [], [1], [0, 255], b"", b"\x01", "", "\x01", 0, 1, (256,), (-1,), (0, 256), (True,), (0, False), (1, None),
+        (1, "1"), (1, (1,)), ((),), (0, 1, 2, 2 ** 61), {}, {0: 1}, range(3), (0,) * 300001, (0,) * 299999 + (256,),
+        (b"\x01",),
     ]
