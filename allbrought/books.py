@@ -75,9 +75,22 @@ def book_of(floor, entries):
     book = Book(floor)
     if not isinstance(entries, (list, tuple)):
         raise BadEntry(-1)
-    for index, entry in enumerate(entries):
+    many = add_as_taken(book, entries)
+    if many < len(entries):
+        raise BadEntry(many)
+    return book
+
+
+def add_as_taken(book, entries):
+    """Add entries one by one, as far as the book takes them; return how many it took."""
+    for many, entry in enumerate(entries):
         try:
             book.add(entry)
         except (NoEntry, NoneIn, Full, IsOut, IsIn):
-            raise BadEntry(index) from None
-    return book
+            return many
+    return len(entries)
+
+
+def is_book_of(floor, thing):
+    """Whether a thing is a book of this floor."""
+    return isinstance(thing, Book) and thing._floor == floor

@@ -2,7 +2,7 @@
 
 from allbrought.errors import NotAmid, NotClosed, TooEarly
 from allbrought.kinds import is_lot, is_number_below, is_tuple_of
-from allbrought.steps import Web
+from allbrought.steps import Web, cell_behind, cells_amid, load_behind
 
 
 def is_closed(plan, thing):
@@ -53,27 +53,13 @@ def cells_of(plan, done):
 
 
 def _cell_of(plan, web, done, robot):
-    cell = plan.tracks[robot][0][1]
-    for step in web.rows[robot][:done[robot]]:
-        if step[0] == "go":
-            cell = step[3]
-    return cell
+    return cell_behind(plan.tracks[robot][0][1], web.rows[robot][:done[robot]])
 
 
 def loads_of(plan, done):
     """The tuple of the orders whose things robots carry, None without."""
     web = _web_of_closed(plan, done)
-    return tuple([_load_of(web, done, robot) for robot in range(len(done))])
-
-
-def _load_of(web, done, robot):
-    load = None
-    for step in web.rows[robot][:done[robot]]:
-        if step[0] == "take":
-            load = step[2]
-        elif step[0] == "put":
-            load = None
-    return load
+    return tuple([load_behind(row[:many]) for row, many in zip(web.rows, done)])
 
 
 def held(plan, done, amid):
@@ -84,9 +70,7 @@ def held(plan, done, amid):
         raise NotAmid()
     cells = [(_cell_of(plan, web, done, robot),) for robot in range(len(done))]
     for robot in amid:
-        step = web.rows[robot][done[robot]]
-        if step[0] == "go":
-            cells[robot] = tuple(sorted(step[2:]))
+        cells[robot] = cells_amid(cells[robot][0], web.rows[robot][done[robot]])
     return tuple(cells)
 
 

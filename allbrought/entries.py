@@ -8,22 +8,31 @@ MOST_PAIRS = 6
 
 def is_entry(floor, thing):
     """Whether a thing is an entry of a book of the floor."""
+    return is_formed(thing, len(stations(floor)), len(homes(floor)))
+
+
+def is_formed(thing, many, robots):
+    """Whether a thing has the form of an entry, for so many stations and robots."""
     if not is_tuple_of(thing, 2) or not isinstance(thing[0], str):
         return False
     if thing[0] == "orders":
-        return _are_pairs(floor, thing[1])
-    return thing[0] in ("out", "in") and is_number_below(thing[1], len(homes(floor)))
+        return _are_pairs(thing[1], many)
+    return thing[0] in ("out", "in") and is_number_below(thing[1], robots)
 
 
-def _are_pairs(floor, thing):
+def _are_pairs(thing, many):
     if not isinstance(thing, tuple) or not 1 <= len(thing) <= MOST_PAIRS:
         return False
-    return all([is_order(floor, pair) for pair in thing])
+    return all([_is_pair(pair, many) for pair in thing])
+
+
+def _is_pair(thing, many):
+    return is_tuple_of(thing, 2) and all([is_number_below(item, many) for item in thing])
 
 
 def is_order(floor, thing):
     """Whether a thing is a pair of numbers of stations."""
-    return is_tuple_of(thing, 2) and all([is_number_below(item, len(stations(floor))) for item in thing])
+    return _is_pair(thing, len(stations(floor)))
 
 
 def orders_of(entries):

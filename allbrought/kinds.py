@@ -1,5 +1,8 @@
 """Which plain kind a thing is of, whatever is passed."""
 
+# 2 ** 32
+SHORTS = 4294967296
+
 
 def is_int(thing):
     """Whether a thing is an integer; a flag is none."""
@@ -14,6 +17,11 @@ def is_number(thing):
 def is_number_below(thing, limit):
     """Whether a thing is a number below a limit."""
     return is_number(thing) and thing < limit
+
+
+def is_short(thing):
+    """Whether a thing is a number below 2 ** 32."""
+    return is_number_below(thing, SHORTS)
 
 
 def is_tuple_of(thing, many):

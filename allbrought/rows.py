@@ -15,7 +15,8 @@ def is_row(thing):
     """Whether a thing is a row."""
     if not isinstance(thing, tuple) or len(thing) > MOST_BYTES:
         return False
-    return all([is_number_below(item, BYTES) for item in thing])
+    # rows can be long: so each byte is looked at on the spot, without a call for each
+    return all([isinstance(item, int) and not isinstance(item, bool) and 0 <= item < BYTES for item in thing])
 
 
 def whole(number):

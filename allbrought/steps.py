@@ -65,6 +65,28 @@ def steps(plan, robot):
     return _steps_of(plan, robot)
 
 
+def many_steps(plan, robot):
+    """How many steps a robot has."""
+    return len(plan.tracks[robot]) - 1 + 2 * len([job for job in plan.jobs if job[0] == robot])
+
+
+def cell_behind(home, row):
+    """The cell in which a robot of this home stands behind a row of its steps, from its first one on."""
+    cells = [step[3] for step in row if step[0] == "go"]
+    return cells[-1] if cells else home
+
+
+def load_behind(row):
+    """The number of the order that a robot carries behind a row of its steps, from its first one on; None without."""
+    deeds = [step for step in row if step[0] != "go"]
+    return deeds[-1][2] if deeds and deeds[-1][0] == "take" else None
+
+
+def cells_amid(cell, step):
+    """The lot of the cells that a robot holds that stands in this one and is amid a step."""
+    return tuple(sorted(step[2:])) if step[0] == "go" else (cell,)
+
+
 def hangs_on(plan, step):
     """The ascending tuple of the steps that a step hangs on."""
     web = Web(plan)

@@ -95,3 +95,52 @@ def letter(match, told):
     else:
         row = (2,) + wholes(match, *told[1], told[2]) + entries(told[3])
     return row + seal(row)
+
+
+def read_numbers(row, at, many, limit):
+    """The pair (list of numbers below a limit, place behind them), or the place of the first that is none."""
+    found = []
+    for _ in range(many):
+        read = number_at(row, at)
+        if read is None or read[0] >= limit:
+            return at
+        found.append(read[0])
+        at = read[1]
+    return found, at
+
+
+def read_entry(row, at):
+    """The pair (entry, place behind it), or the place of the byte or number that is none."""
+    words = {byte: word for word, byte in WORDS.items()}
+    if at >= len(row) or row[at] not in words:
+        return at
+    word = words[row[at]]
+    many = 1
+    begin = at + 1
+    if word == "orders":
+        read = read_numbers(row, begin, 1, 7)
+        if isinstance(read, int) or read[0] == [0]:
+            return begin
+        many, begin = 2 * read[0][0], read[1]
+    read = read_numbers(row, begin, many, 2 ** 32)
+    if isinstance(read, int):
+        return read
+    numbers, behind = read
+    what = tuple(tuple(numbers[at:at + 2]) for at in range(0, many, 2)) if word == "orders" else numbers[0]
+    return (word, what), behind
+
+
+def read_entries(row, at):
+    """The pair (list of entries, place behind them) of how many there are and their rows, or the place at fault."""
+    read = read_numbers(row, at, 1, 2 ** 64)
+    if isinstance(read, int):
+        return read
+    many, at = read[0][0], read[1]
+    found = []
+    while len(found) < many:
+        read = read_entry(row, at)
+        if isinstance(read, int):
+            return read
+        found.append(read[0])
+        at = read[1]
+    return found, at

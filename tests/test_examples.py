@@ -2,6 +2,7 @@
 
 import unittest
 
+from allbrought.bookrows import entry_row
 from allbrought.doing import cells_of, held, may_do
 from allbrought.floors import Floor, barred, barring, cells, far, neighbours
 from allbrought.marks import mark
@@ -49,6 +50,7 @@ class Examples(unittest.TestCase):
     def test_e07(self):
         self.assertEqual(whole(300), (172, 2))
         self.assertEqual(mark((7,)), 1000011)
+        self.assertEqual(entry_row(("orders", ((0, 1),))), (1, 1, 0, 1))
 
 
 if __name__ == "__main__":

@@ -42,7 +42,7 @@ STATEMENTS = (
 NOT_USED = (
     ast.GeneratorExp, ast.SetComp, ast.Set, ast.Yield, ast.YieldFrom, ast.Await, ast.NamedExpr, ast.Starred, ast.Global,
     ast.Nonlocal, ast.AsyncFunctionDef, ast.AsyncFor, ast.AsyncWith, ast.With, ast.Match, ast.AnnAssign, ast.Div,
-    ast.MatMult,
+    ast.MatMult, ast.Pow,
 )
 
 

@@ -4,13 +4,16 @@ import copy
 import random
 import unittest
 
-from allbrought import books, changes, doing, floors, marks, measures, plans, rows, steps, times, tracks
+from allbrought import bookrows, books, changes, doing, floors, letters, marks, measures, plans, rows, steps, times, tracks
 from allbrought.errors import FloorError
 from allbrought.floors import Floor
+from allbrought.hosts import Host
+from allbrought.robots import Robot
 from tests import slow
 from tests.things import TWO, TWO_ROWS, odd_things
 
 BARRED = Floor(("HHS", "..#"))
+SAYING = ("say", 1, 2, 1, (4, 1))
 TIMES = ((1, 2, 3, 4, 5, 6, 7, 8), (8, 7, 6, 5, 4, 3))
 # their last argument is always of the right kind
 TRUSTING = [
@@ -45,6 +48,11 @@ def calls():
         (rows.read_signed, [(0, 172, 2, 0), 1]), (marks.mark, [(7, 8)]), (marks.mark_behind, [9, (7, 8)]),
         (changes.changed, [(1, 2, 3), (3, 5, 9)]), (changes.change, [(1, 2, 3), (1, 9)]),
         (changes.is_change, [(1, 2, 3), (1, 9), (3, 5, 9)]),
+        (bookrows.entry_row, [TWO[0]]), (bookrows.read_entry, [(9, 1, 1, 0, 1), 1]), (read_back, [TWO_ROWS, (1, 2, 1)]),
+        (letters.sealed, [(1, 2)]), (letters.unsealed, [(1, 0, 0, 0)]), (letters.letter_row, [TWO_ROWS, 5, SAYING]),
+        (letters.read_letter, [TWO_ROWS, 5, letters.letter_row(TWO_ROWS, 5, SAYING)]),
+        (told_by_host, [TWO_ROWS, list(TWO), letters.letter_row(TWO_ROWS, 5, SAYING)]),
+        (told_by_robot, [TWO_ROWS, (tuple(TWO), (3, 0), 3, True), (5, 0)]),
     ]
 
 
@@ -52,6 +60,27 @@ def told(floor, entries):
     """All that the book of some entries tells, as a list."""
     book = books.book_of(floor, entries)
     return [book.entries(), book.orders(), book.robots_in(), book.plan(), book.copy().entries()]
+
+
+def read_back(floor, row):
+    """The entries and the row of the book of which this is the row."""
+    book = bookrows.read_book(floor, row)
+    return [book.entries(), bookrows.book_row(book)]
+
+
+def told_by_host(floor, entries, thing):
+    """All that a host tells of the book of some entries that hears a thing, as a list."""
+    host = Host(floor, 5, books.book_of(floor, entries))
+    word = host.hear(thing)
+    some = [host.letter(robot) for robot in host.known()]
+    return [word, host.book().entries(), host.plan(), host.counts(), host.left(), host.known(), some]
+
+
+def told_by_robot(floor, past, eye):
+    """All that a robot tells that is made with these, as a list."""
+    robot = Robot(floor, 5, 0, past, eye)
+    known = [robot.book().entries(), robot.plan(), robot.past(), robot.done(), robot.counts()]
+    return known + [robot.step(), robot.lacks(), robot.may(), robot.cells(), robot.load(), robot.say()]
 
 
 class Rules(unittest.TestCase):
