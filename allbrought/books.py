@@ -1,8 +1,8 @@
 """Books of orders."""
 
 from allbrought.entries import is_entry, orders_of, robots_inside
-from allbrought.errors import BadEntry, Full, IsIn, IsOut, NoEntry, NoneIn, NotWellFormed
-from allbrought.floors import barred, homes
+from allbrought.errors import BadEntry, Full, IsIn, IsOut, NoEntry, NoneIn
+from allbrought.floors import check_well_formed, homes
 from allbrought.laying import laid_behind, nothing_laid, plan_laid
 
 MOST_ORDERS = 100
@@ -13,9 +13,7 @@ class Book:
     """Entries, one behind another, on a well formed floor; none is ever forgotten."""
 
     def __init__(self, floor):
-        pair = barred(floor)
-        if pair is not None:
-            raise NotWellFormed(pair[0], pair[1])
+        check_well_formed(floor)
         self._floor = floor
         self._entries = []
         # plans grow only at their ends: so what was laid once stays, and the rest is laid when it is asked for

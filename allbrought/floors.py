@@ -1,6 +1,6 @@
 """Floors of cells, and the ways on them."""
 
-from allbrought.errors import BadFloor, NoCell, NoRobot, NoStation
+from allbrought.errors import BadFloor, NoCell, NoRobot, NoStation, NotWellFormed
 from allbrought.kinds import is_lot, is_number_below
 
 MOST = 12
@@ -164,6 +164,13 @@ def barred(floor):
             if cell not in steps:
                 return (robot, station)
     return None
+
+
+def check_well_formed(floor):
+    """See to it that each robot has a way to each station of a floor."""
+    pair = barred(floor)
+    if pair is not None:
+        raise NotWellFormed(pair[0], pair[1])
 
 
 def is_well_formed(floor):

@@ -68,3 +68,8 @@ class Host:
         first = self._heard[robot]
         entries = tuple(self._book.entries()[first:first + MOST_TOLD])
         return row_of_letter(self._match, ("tell", self.counts(), first, entries))
+
+
+def is_host_of(floor, match, thing):
+    """Whether a thing is a host of this floor and match."""
+    return isinstance(thing, Host) and thing._floor == floor and thing._match == match

@@ -11,17 +11,29 @@ from allbrought.steps import Web, cell_behind, cells_amid, load_behind, many_ste
 def book_of_past(floor, number, past):
     """The book of a past that the robot of this number can have, None for what can't be one."""
     book = Book(floor)
-    if not _is_past(floor, number, past):
-        return None
+    return book if is_past(floor, number, past) and grows_to(book, number, past) else None
+
+
+def grows_to(book, number, past):
+    """Add the entries of a past to a book of the first ones; whether the robot of this number can have this past.
+
+    The past is known to be a tuple as is_past asks for.
+    """
     entries, _, done, begun = past
-    if add_as_taken(book, entries) < len(entries):
-        return None
+    more = entries[len(book.entries()):]
+    if add_as_taken(book, more) < len(more):
+        return False
     # a step that is begun is one more that the plan must have
     many = done + 1 if begun else done
-    return book if many <= many_steps(book.plan(), number) else None
+    return many <= many_steps(book.plan(), number)
 
 
-def _is_past(floor, number, thing):
+def past_of_new(floor):
+    """The past of a robot that heard and did nothing yet."""
+    return ((), (0,) * len(homes(floor)), 0, False)
+
+
+def is_past(floor, number, thing):
     """Whether a thing is a tuple (entries, counts, done, begun), whatever the entries are."""
     if not is_tuple_of(thing, 4):
         return False
@@ -47,10 +59,9 @@ class Robot:
     def __init__(self, floor, match, number, past, eye):
         if not is_short(match):
             raise NoNumber()
-        many = len(homes(floor))
-        if not is_number_below(number, many):
+        if not is_number_below(number, len(homes(floor))):
             raise NoRobot()
-        known = ((), (0,) * many, 0, False) if past is None else past
+        known = past_of_new(floor) if past is None else past
         book = book_of_past(floor, number, known)
         if book is None:
             raise NoPast()
@@ -171,3 +182,22 @@ class Robot:
         """The row of its letter: a saying of what it heard and did."""
         heard = len(self._book.entries())
         return row_of_letter(self._match, ("say", self._number, heard, self._done, self.counts()))
+
+
+def eye_of(robot, side):
+    """The pair (cell, load) that the eye of a robot's body tells.
+
+    If a step is begun, the body is as ahead of it for side 0, as behind it for side 1.
+    """
+    _, _, done, begun = robot.past()
+    return robot._seen(done + side if begun else done)
+
+
+def is_robot_of(floor, match, thing):
+    """Whether a thing is a robot of this floor and match."""
+    return isinstance(thing, Robot) and thing._floor == floor and thing._match == match
+
+
+def number_of(robot):
+    """The number that a robot was made with."""
+    return robot._number

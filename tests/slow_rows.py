@@ -144,3 +144,39 @@ def read_entries(row, at):
         found.append(read[0])
         at = read[1]
     return found, at
+
+
+def read_letter(match, robots, row):
+    """What a letter to or from a host of this match and so many robots says, None for what is none."""
+    if not is_row(row) or row[-4:] != seal(row[:-4]):
+        return None
+    row = row[:-4]
+    found = read_numbers(row, 1, 1, 2 ** 32)
+    if row[:1] not in ((1,), (2,)) or isinstance(found, int) or found[0] != [match]:
+        return None
+    many = robots + (3 if row[0] == 1 else 1)
+    read = read_numbers(row, found[1], many, 100000)
+    if isinstance(read, int):
+        return None
+    numbers, at = read
+    if row[0] == 1:
+        robot, heard, done = numbers[:3]
+        is_right = at == len(row) and robot < robots and numbers[3 + robot] == done
+        return ("say", robot, heard, done, tuple(numbers[3:])) if is_right else None
+    read = read_entries(row, at)
+    if isinstance(read, int) or read[1] != len(row) or len(read[0]) > 60:
+        return None
+    if any(number >= 100000 for entry in read[0] for number in numbers_of(entry)):
+        return None
+    return ("tell", tuple(numbers[:-1]), numbers[-1], tuple(read[0]))
+
+
+def numbers_of(entry):
+    word, what = entry
+    return [number for pair in what for number in pair] if word == "orders" else [what]
+
+
+def sealed_zero(match):
+    """What begins as a letter of the match, and is sealed, but is none."""
+    row = (1,) + wholes(match) + (0,) * 40
+    return row + seal(row)

@@ -3,12 +3,14 @@
 import unittest
 
 from allbrought.bookrows import entry_row
+from allbrought.disks import record
 from allbrought.doing import cells_of, held, may_do
 from allbrought.floors import Floor, barred, barring, cells, far, neighbours
 from allbrought.marks import mark
 from allbrought.plans import plan_of
 from allbrought.rows import whole
 from allbrought.steps import hangs_on, steps
+from allbrought.texts import floor_text
 
 floor = Floor(("H.S", "H.S"))
 one = [("orders", ((0, 1),))]
@@ -51,6 +53,10 @@ class Examples(unittest.TestCase):
         self.assertEqual(whole(300), (172, 2))
         self.assertEqual(mark((7,)), 1000011)
         self.assertEqual(entry_row(("orders", ((0, 1),))), (1, 1, 0, 1))
+        self.assertEqual(record((7, 8)), (2, 7, 8))
+
+    def test_e08(self):
+        self.assertEqual(floor_text(floor), "H.S\nH.S\n")
 
 
 if __name__ == "__main__":

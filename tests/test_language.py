@@ -13,7 +13,7 @@ LIBRARY = {
 }
 BUILTINS = set(
     "len range enumerate zip min max sum abs sorted reversed int str bool list tuple dict isinstance ord repr "
-    "any all divmod Exception ValueError TypeError KeyError IndexError LookupError bytes".split()
+    "any all divmod Exception ValueError TypeError KeyError IndexError LookupError bytes super".split()
 )
 ERRORS_CAUGHT = {"KeyError", "ZeroDivisionError"}
 METHODS = set(
@@ -237,6 +237,30 @@ class Language(unittest.TestCase):
                     "sum": {"start"}, "enumerate": {"start"}, "zip": {"strict"},
                 }
                 self.assertLessEqual(keywords, allowed.get(node.func.id, set()), self.at(path, node))
+
+    def test_super_calls_the_method_of_the_base(self):
+        for path in FILES:
+            tree = tree_of(path)
+            right = set()
+            for node in ast.walk(tree):
+                for method in node.body if isinstance(node, ast.ClassDef) and node.bases else []:
+                    right |= {id(name) for name in self.supers_of(method)}
+            for node in ast.walk(tree):
+                if isinstance(node, ast.Name) and node.id == "super":
+                    self.assertIn(id(node), right, self.at(path, node))
+                if isinstance(node, (ast.Lambda, ast.ListComp, ast.DictComp)):
+                    inner = [item.id for item in ast.walk(node) if isinstance(item, ast.Name)]
+                    self.assertNotIn("super", inner, self.at(path, node))
+
+    def supers_of(self, method):
+        """The names in calls super().told(..) of a method called told."""
+        found = []
+        for node in ast.walk(method):
+            if isinstance(node, ast.Call) and isinstance(node.func, ast.Attribute) and node.func.attr == method.name:
+                inner = node.func.value
+                if isinstance(inner, ast.Call) and not inner.args and isinstance(inner.func, ast.Name):
+                    found.append(inner.func)
+        return found
 
     def test_views_are_iterated_at_once(self):
         for path in FILES:

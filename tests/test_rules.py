@@ -4,7 +4,8 @@ import copy
 import random
 import unittest
 
-from allbrought import bookrows, books, changes, doing, floors, letters, marks, measures, plans, rows, steps, times, tracks
+from allbrought import bookrows, books, changes, disks, doing, floors, letters, marks, measures, nets, plans, rows
+from allbrought import savings, steps, texts, times, tracks
 from allbrought.errors import FloorError
 from allbrought.floors import Floor
 from allbrought.hosts import Host
@@ -18,8 +19,11 @@ TIMES = ((1, 2, 3, 4, 5, 6, 7, 8), (8, 7, 6, 5, 4, 3))
 # their last argument is always of the right kind
 TRUSTING = [
     floors.cells, floors.homes, floors.stations, floors.barred, tracks.last_tick, plans.plan_of, steps.hangings,
-    measures.passes, measures.busiest, measures.bounds,
+    measures.passes, measures.busiest, measures.bounds, texts.floor_text, texts.floor_mark, texts.plan_text,
 ]
+PAST = (tuple(TWO), (3, 0), 3, True)
+DEEDS = [("add", TWO[0]), ("wake", 1), ("wake", 0), ("post", 0), ("double", 0), ("bring", 1), ("serve", 0), ("bring", 1)]
+DEEDS += [("begin", 0), ("send", -1, (1, 2)), ("spoil", 1, 0, 9)]
 
 
 def calls():
@@ -52,7 +56,16 @@ def calls():
         (letters.sealed, [(1, 2)]), (letters.unsealed, [(1, 0, 0, 0)]), (letters.letter_row, [TWO_ROWS, 5, SAYING]),
         (letters.read_letter, [TWO_ROWS, 5, letters.letter_row(TWO_ROWS, 5, SAYING)]),
         (told_by_host, [TWO_ROWS, list(TWO), letters.letter_row(TWO_ROWS, 5, SAYING)]),
-        (told_by_robot, [TWO_ROWS, (tuple(TWO), (3, 0), 3, True), (5, 0)]),
+        (told_by_robot, [TWO_ROWS, PAST, (5, 0)]),
+        (told_by_net, [TWO_ROWS, 5, DEEDS]), (told_by_disk, [[(1, 2), (), (3,)], (0, 1), 2]),
+        (disks.record, [(7, 8)]), (disks.read_record, [(2, 7, 8)]),
+        (disks.kept_entries, [TWO_ROWS, [disks.record(bookrows.entry_row(entry)) for entry in TWO] + [(7,)]]),
+        (savings.past_row, [TWO_ROWS, PAST]), (savings.read_past, [TWO_ROWS, savings.past_row(TWO_ROWS, PAST)]),
+        (told_by_saved_host, [TWO_ROWS, list(TWO), letters.letter_row(TWO_ROWS, 5, SAYING)]),
+        (told_by_saved_robot, [TWO_ROWS, letters.letter_row(TWO_ROWS, 5, ("tell", (0, 4), 0, tuple(TWO)))]),
+        (texts.floor_text, [TWO_ROWS]), (texts.read_floor, ["H.S\nH.S\n"]), (texts.floor_mark, [TWO_ROWS]),
+        (texts.plan_text, [plan]), (texts.read_plan, [TWO_ROWS, list(TWO), texts.plan_text(plan)]),
+        (told_by_text, [TWO_ROWS, "order 0 1\nout 1\n"]),
     ]
 
 
@@ -81,6 +94,51 @@ def told_by_robot(floor, past, eye):
     robot = Robot(floor, 5, 0, past, eye)
     known = [robot.book().entries(), robot.plan(), robot.past(), robot.done(), robot.counts()]
     return known + [robot.step(), robot.lacks(), robot.may(), robot.cells(), robot.load(), robot.say()]
+
+
+def told_by_net(floor, match, deeds):
+    """What a net returns of some deeds, and tells behind them, as a list."""
+    net = nets.Net(floor, match)
+    answers = nets.led_by(net, deeds)
+    some = [net.robot(number).past() for number in net.robots()]
+    return [answers, net.host().book().entries(), net.bag(), net.where(), net.meets(), some, nets.rounds(net, 3)]
+
+
+def told_by_disk(blocks, kept, number):
+    """All that a disk tells to which blocks are written, the first being synced, and that is cut, and dropped from."""
+    disk = disks.Disk()
+    numbers = [disk.write(row) for row in blocks[:1]] + [disk.sync()] + [disk.write(row) for row in blocks[1:]]
+    other = disk.copy()
+    disk.cut(kept)
+    other.drop(number)
+    return [numbers, disk.blocks(), disk.synced(), other.blocks(), other.synced()]
+
+
+def told_by_saved_host(floor, entries, thing):
+    """All that a saved host tells that gets some entries and hears a thing, and its disk, as a list."""
+    disk = disks.Disk()
+    host = savings.SavedHost(floor, 5, disk)
+    numbers = [host.add(entry) for entry in entries]
+    word = host.hear(thing)
+    some = [host.letter(robot) for robot in host.known()]
+    return [numbers, word, some, host.store(), disk.blocks(), host.book().entries(), host.counts(), host.left()]
+
+
+def told_by_saved_robot(floor, thing):
+    """All that a saved robot tells that hears a thing, and its disk, as a list."""
+    disk = disks.Disk()
+    robot = savings.SavedRobot(floor, 5, 0, disk, None)
+    known = [robot.hear(thing), robot.store(), robot.past(), robot.say(), disk.blocks(), disk.synced()]
+    if robot.may():
+        robot.begin()
+        robot.end()
+    return known + [robot.cells(), disk.blocks(), disk.synced()]
+
+
+def told_by_text(floor, text):
+    """The entries and the text of the book of which this is the text, as a list."""
+    book = texts.read_book_text(floor, text)
+    return [book.entries(), texts.book_text(book)]
 
 
 class Rules(unittest.TestCase):
