@@ -7,6 +7,7 @@ from allbrought.disks import record
 from allbrought.doing import cells_of, held, may_do
 from allbrought.floors import Floor, barred, barring, cells, far, neighbours
 from allbrought.marks import mark
+from allbrought.pictures import drawn
 from allbrought.plans import plan_of
 from allbrought.rows import whole
 from allbrought.steps import hangs_on, steps
@@ -56,6 +57,7 @@ class Examples(unittest.TestCase):
         self.assertEqual(record((7, 8)), (2, 7, 8))
 
     def test_e08(self):
+        self.assertEqual(drawn(floor, ((0, 1), (3,)), (None, None)), "00S\n1.S\n")
         self.assertEqual(floor_text(floor), "H.S\nH.S\n")
 
 

@@ -4,8 +4,8 @@ import copy
 import random
 import unittest
 
-from allbrought import bookrows, books, changes, disks, doing, floors, letters, marks, measures, nets, plans, rows
-from allbrought import savings, steps, texts, times, tracks
+from allbrought import bookrows, books, changes, desks, disks, doing, films, floors, letters, marks, measures, nets
+from allbrought import pictures, plans, reels, rows, savings, steps, texts, times, tracks
 from allbrought.errors import FloorError
 from allbrought.floors import Floor
 from allbrought.hosts import Host
@@ -20,10 +20,13 @@ TIMES = ((1, 2, 3, 4, 5, 6, 7, 8), (8, 7, 6, 5, 4, 3))
 TRUSTING = [
     floors.cells, floors.homes, floors.stations, floors.barred, tracks.last_tick, plans.plan_of, steps.hangings,
     measures.passes, measures.busiest, measures.bounds, texts.floor_text, texts.floor_mark, texts.plan_text,
+    films.first_wrong, reels.film_row,
 ]
 PAST = (tuple(TWO), (3, 0), 3, True)
 DEEDS = [("add", TWO[0]), ("wake", 1), ("wake", 0), ("post", 0), ("double", 0), ("bring", 1), ("serve", 0), ("bring", 1)]
 DEEDS += [("begin", 0), ("send", -1, (1, 2)), ("spoil", 1, 0, 9)]
+EVENTS = (("begin", 0), ("end", 0), ("begin", 1), ("back", 1), ("begin", 0))
+LINES = ["floor a H.S|H.S|", "net n a", "do n order 0 1 1 1", "do n wake 0", "rounds n 4", "film f n 3", "seek f 5", "look f"]
 
 
 def calls():
@@ -66,6 +69,16 @@ def calls():
         (texts.floor_text, [TWO_ROWS]), (texts.read_floor, ["H.S\nH.S\n"]), (texts.floor_mark, [TWO_ROWS]),
         (texts.plan_text, [plan]), (texts.read_plan, [TWO_ROWS, list(TWO), texts.plan_text(plan)]),
         (told_by_text, [TWO_ROWS, "order 0 1\nout 1\n"]),
+        (films.Film, [plan, EVENTS]), (films.is_film, [plan, films.Film(plan, EVENTS)]),
+        (films.first_wrong, [films.Film(plan, EVENTS + EVENTS)]), (films.done_then, [films.Film(plan, EVENTS), 3]),
+        (films.amid_then, [films.Film(plan, EVENTS), 3]), (films.held_then, [films.Film(plan, EVENTS), 3]),
+        (films.brought, [films.Film(plan, EVENTS), 3]), (films.loads, [films.Film(plan, EVENTS), 3]),
+        (films.played, [plan, [0, 1, 0]]), (films.merged, [plan, (6, 2)]), (films.gap, [plan, (0, 2)]),
+        (reels.film_row, [films.Film(plan, EVENTS)]), (reels.read_film, [plan, (2, 0, 0, 1, 0)]),
+        (told_by_reel, [films.Film(plan, EVENTS * 4), [9, 2, 7], 4]),
+        (pictures.drawn, [TWO_ROWS, ((0, 1), (3,)), (None, 0)]), (pictures.picture_of, [TWO_ROWS, plan, (6, 2)]),
+        (pictures.changes, ["ab\ncd\n", "ax\nyd\n"]), (pictures.redrawn, ["ab\n", ((0, 0, "x"), (0, 1, "y"))]),
+        (told_by_screen, [TWO_ROWS, ((0, 1), (3,)), (None, 0)]), (told_by_desk, [LINES, "brought f"]),
     ]
 
 
@@ -139,6 +152,28 @@ def told_by_text(floor, text):
     """The entries and the text of the book of which this is the text, as a list."""
     book = texts.read_book_text(floor, text)
     return [book.entries(), texts.book_text(book)]
+
+
+def told_by_reel(film, places, every):
+    """All that a reel tells that seeks these places, and a copy of it that goes on, as a list."""
+    reel = reels.Reel(film, every)
+    told_then = []
+    for at in places:
+        reel.seek(at)
+        told_then.append((reel.stands(), reel.worked(), reel.kept(), reel.cells_now(), reel.done_now()))
+    other = reel.copy()
+    other.seek(len(film.events))
+    return told_then + [reel.stands(), reel.kept(), other.stands(), other.kept(), other.worked()]
+
+
+def told_by_screen(floor, held, loads):
+    screen = pictures.Screen(floor)
+    return [screen.picture(), screen.show(held, loads), screen.show(held, loads), screen.picture(), screen.shown()]
+
+
+def told_by_desk(lines, line):
+    desk = desks.Desk()
+    return [desk.tell(one) for one in lines] + [desk.tell(line)]
 
 
 class Rules(unittest.TestCase):
